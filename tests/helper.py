@@ -34,6 +34,34 @@ def undo(p):
     return [6, p]
 
 
+def close(p):
+    return [7, p]
+
+
+def cells(p):
+    return [8, p]
+
+
+def cell(p, x, y):
+    return [9, p, x, y]
+
+
+def tile(p, i):
+    return [10, p, i]
+
+
+def same(p, q):
+    return [11, p, q]
+
+
+def store():
+    return [12]
+
+
+def slot(i):
+    return [13, i]
+
+
 def flat(calls):
     return [number for call in calls for number in call]
 
@@ -53,8 +81,46 @@ def ask(*calls):
     return split_answers(answers(flat(calls)))
 
 
+def ask_behind(calls, asked):
+    """What each of the asked calls answers behind the calls, in lists of no more than 40 calls."""
+    room = 40 - len(calls)
+    told = []
+    for first in range(0, len(asked), room):
+        told += ask(*calls, *asked[first:first + room])[len(calls):]
+    return told
+
+
+def cells_after(p, *calls):
+    """Picture p's cells, a list for each row."""
+    columns, rows, *numbers = ask(*calls, cells(p))[-1]
+    assert len(numbers) == columns * rows
+    return [numbers[j * columns:(j + 1) * columns] for j in range(rows)]
+
+
+def places_after(p, *calls):
+    columns, rows = ask(*calls, cells(p))[-1][:2]
+    return [told[0] for told in ask_behind(calls, [tile(p, i) for i in range(columns * rows // 16)])]
+
+
+def counts_after(*calls):
+    many, used, *counts = ask(*calls, store())[-1]
+    assert (many, used) == (len(counts), sum(count > 0 for count in counts))
+    return counts
+
+
+def look_after(*calls):
+    """All that can be asked of the pictures and the store, also one, two and three times back."""
+    looks = []
+    for back in range(4):
+        behind = [*calls, *[undo(p) for p in range(4) for time in range(back)]]
+        counts = counts_after(*behind)
+        looks.append((counts, ask_behind(behind, [
+            *[cells(p) for p in range(4)], *[tile(p, i) for p in range(4) for i in range(16)],
+            *[same(p, q) for p in range(4) for q in range(4)], *[slot(i) for i in range(len(counts))]])))
+    return looks
+
+
 def album_after(*calls):
-    """The album behind the answers: no call of this stage tells of cells or places."""
     album = Album()
     for call in calls:
         if call[0] == 2:
@@ -64,99 +130,173 @@ def album_after(*calls):
     return album
 
 
-def cells_after(p, *calls):
-    return album_after(*calls).rows_of_picture(p)
-
-
 def snapshot(album):
     """All that an album holds, as values to compare; a free place's tile is nobody's."""
-    store = album.store
-    tiles = [tile if count else None for tile, count in zip(store.tiles, store.counts)]
+    kept = album.store
+    tiles = [had if count else None for had, count in zip(kept.tiles, kept.counts)]
     pictures = {p: (q.wide, list(q.places), [list(b) for b in q.before]) for p, q in album.pictures.items()}
-    return tiles, list(store.counts), pictures
+    return tiles, list(kept.counts), pictures
+
+
+class Shelf:
+    """The store told word by word: a dict of the places in use, and how many places there are."""
+
+    def __init__(self):
+        self.used = {}
+        self.many = 0
+
+    def keep(self, kept):
+        for place, has in self.used.items():
+            if has[0] == kept:
+                has[1] += 1
+                return place
+        free = [place for place in range(self.many) if place not in self.used]
+        place = free[0] if free else self.many
+        self.many = max(self.many, place + 1)
+        self.used[place] = [kept, 1]
+        return place
+
+    def let_go(self, place):
+        self.used[place][1] -= 1
+        if self.used[place][1] == 0:
+            del self.used[place]
+
+    def ask_store(self):
+        return [self.many, len(self.used), *[self.used.get(place, [None, 0])[1] for place in range(self.many)]]
+
+    def ask_slot(self, i):
+        if i >= self.many:
+            return [-2]
+        return list(self.used[i][0]) if i in self.used else [-6]
 
 
 class Whole:
-    """Each picture and each time before kept whole, as a dict of cells; tiles are only counted."""
+    """Each picture and each time before kept whole, as a dict of cells, and beside it the places on a shelf."""
 
     def __init__(self):
-        self.now = {}
+        self.shelf = Shelf()
         self.size = {}
-        self.before = {}
+        # Of each picture pairs of cells and places: now, then the times before, the last time first.
+        self.times = {}
+
+    def rows(self, p):
+        w, h = self.size[p]
+        return [[self.times[p][0][0][i, j] for i in range(4 * w)] for j in range(4 * h)]
+
+    def tiles(self, p, whole):
+        w, h = self.size[p]
+        corners = [(4 * i, 4 * j) for j in range(h) for i in range(w)]
+        return [tuple(whole[left + k % 4, top + k // 4] for k in range(16)) for left, top in corners]
+
+    def pointed_to(self):
+        """Each tile that a picture has or had, as often as it does: read off the cells alone."""
+        return [one for p in self.times for whole, places in self.times[p] for one in self.tiles(p, whole)]
 
     def stands(self):
-        tiles = []
-        for p, cells in self.now.items():
-            w, h = self.size[p]
-            for whole in [cells] + self.before[p]:
-                for number in range(w * h):
-                    left, top = number % w * 4, number // w * 4
-                    tiles.append(tuple(whole[left + k % 4, top + k // 4] for k in range(16)))
+        tiles = self.pointed_to()
         return [len(set(tiles)), len(tiles)]
 
-    def new(self, p, size, cells):
-        self.now[p], self.size[p], self.before[p] = cells, size, []
-        return self.stands()
+    def drop(self, p):
+        for whole, places in self.times.pop(p, []):
+            for place in places:
+                self.shelf.let_go(place)
 
-    def change(self, p, cells):
-        self.before[p] = [self.now[p], *self.before[p]][:3]
-        self.now[p] = cells
+    def change(self, p, whole):
+        places = [self.shelf.keep(one) for one in self.tiles(p, whole)]
+        self.times[p].insert(0, (whole, places))
+        for old, oldest in self.times[p][4:]:
+            for place in oldest:
+                self.shelf.let_go(place)
+        self.times[p] = self.times[p][:4]
         return self.stands()
 
     def ask(self, call):
-        number, p = call[:2]
+        number, given = call[0], call[1:]
         if number == 0:
-            return self.ask_page(*call[1:])
-        if p not in self.now or number == 5 and call[2] not in self.now:
+            return self.ask_page(*given)
+        if number == 12:
+            return self.shelf.ask_store()
+        if number == 13:
+            return self.shelf.ask_slot(*given)
+        if given[0] not in self.times or number in (5, 11) and given[1] not in self.times:
             return [-1]
-        old = self.now[p]
-        if number == 1:
-            x, y, u, v, n = call[2:]
-            if n > 255:
-                return [-2]
-            return self.change(p, {(i, j): n if x <= i < x + u and y <= j < y + v else old[i, j] for i, j in old})
         if number == 2:
-            return self.ask_dots(p, call[3:])
-        if number == 3:
-            wide = self.size[p][0] * 4
-            return self.change(p, {((i + call[2]) % wide, j): old[i, j] for i, j in old})
-        if number == 4:
-            if call[2] > 3 or call[2] == p:
-                return [-2]
-            return self.new(call[2], self.size[p], dict(old))
-        if number == 5:
-            return self.ask_paste(*call[1:])
-        if not self.before[p]:
-            return [-4]
-        self.now[p] = self.before[p].pop(0)
-        return self.stands()
+            return self.ask_dots(given[0], given[2:])
+        return [None, self.ask_box, None, self.ask_shift, self.ask_copy, self.ask_paste, self.ask_undo, self.ask_close,
+                self.ask_cells, self.ask_cell, self.ask_tile, self.ask_same][number](*given)
 
     def ask_page(self, p, w, h):
         if p > 3:
             return [-1]
         if w not in (1, 2, 3, 4) or h not in (1, 2, 3, 4):
             return [-2]
-        return self.new(p, (w, h), {(i, j): 0 for i in range(4 * w) for j in range(4 * h)})
+        self.drop(p)
+        self.size[p], self.times[p] = (w, h), []
+        return self.change(p, {(i, j): 0 for i in range(4 * w) for j in range(4 * h)})
+
+    def ask_box(self, p, x, y, u, v, n):
+        old = self.times[p][0][0]
+        if n > 255:
+            return [-2]
+        return self.change(p, {(i, j): n if x <= i < x + u and y <= j < y + v else old[i, j] for i, j in old})
 
     def ask_dots(self, p, numbers):
-        cells = dict(self.now[p])
+        whole = dict(self.times[p][0][0])
         if len(numbers) % 3:
             return [-2]
         for i, j, n in zip(numbers[0::3], numbers[1::3], numbers[2::3]):
-            if (i, j) not in cells or n > 255:
+            if (i, j) not in whole or n > 255:
                 return [-2]
-            cells[i, j] = n
-        return self.change(p, cells)
+            whole[i, j] = n
+        return self.change(p, whole)
+
+    def ask_shift(self, p, n):
+        old, wide = self.times[p][0][0], self.size[p][0] * 4
+        return self.change(p, {((i + n) % wide, j): old[i, j] for i, j in old})
+
+    def ask_copy(self, p, q):
+        if q > 3 or q == p:
+            return [-2]
+        whole, places = self.times[p][0]
+        for place in places:
+            self.shelf.used[place][1] += 1
+        self.drop(q)
+        self.size[q], self.times[q] = self.size[p], [(dict(whole), list(places))]
+        return self.stands()
 
     def ask_paste(self, p, q, x, y):
         if p == q:
             return [-2]
-        cells = dict(self.now[q])
-        for i, j in self.now[p]:
-            if (x + i, y + j) in cells and self.now[p][i, j] != 0:
-                cells[x + i, y + j] = self.now[p][i, j]
-        return self.change(q, cells)
+        whole = dict(self.times[q][0][0])
+        for (i, j), n in self.times[p][0][0].items():
+            if (x + i, y + j) in whole and n != 0:
+                whole[x + i, y + j] = n
+        return self.change(q, whole)
 
-    def rows(self, p):
+    def ask_undo(self, p):
+        if len(self.times[p]) == 1:
+            return [-4]
+        for place in self.times[p].pop(0)[1]:
+            self.shelf.let_go(place)
+        return self.stands()
+
+    def ask_close(self, p):
+        self.drop(p)
+        return self.stands()
+
+    def ask_cells(self, p):
         w, h = self.size[p]
-        return [[self.now[p][i, j] for i in range(4 * w)] for j in range(4 * h)]
+        return [4 * w, 4 * h, *[n for row in self.rows(p) for n in row]]
+
+    def ask_cell(self, p, x, y):
+        return [self.times[p][0][0].get((x, y), -2)]
+
+    def ask_tile(self, p, i):
+        tiles = self.tiles(p, self.times[p][0][0])
+        if i >= len(tiles):
+            return [-2]
+        return [self.times[p][0][1][i], self.pointed_to().count(tiles[i])]
+
+    def ask_same(self, p, q):
+        ones, others = [self.tiles(r, self.times[r][0][0]) for r in (p, q)]
+        return [sum(one == other for one, other in zip(ones, others)), len({one for one in ones if one in others})]

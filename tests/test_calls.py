@@ -1,8 +1,9 @@
-"""Each call at ordinary inputs and at the edges: what it answers and what the cells are then."""
+"""The form of calls and answers; and each call that changes a picture, at ordinary inputs and at the edges."""
 
 import unittest
 
-from helper import TOP, ask, box, cells_after, copy, dots, page, paste, shift, undo
+from helper import (TOP, ask, box, cell, cells, cells_after, close, copy, dots, page, paste, same, shift, slot, store,
+                    tile, undo)
 from tilestore.pictures import answers
 
 ONE_ROW_EACH = dots(0, *[number for i in range(8) for number in (i, 0, i + 1)])
@@ -14,7 +15,7 @@ def rows_with(wide, high, cells):
 
 class Form(unittest.TestCase):
 
-    def test_two_numbers_with_their_count_ahead_for_each_call(self):
+    def test_two_numbers_with_their_count_ahead_for_each_change(self):
         calls = [0, 0, 2, 1, 1, 0, 0, 0, 1, 1, 9, 2, 0, 3, 7, 3, 5, 3, 0, 4, 4, 0, 1, 5, 0, 1, 1, 0, 6, 0]
         self.assertEqual(answers(calls), [
             2, 1, 2,
@@ -29,10 +30,41 @@ class Form(unittest.TestCase):
         self.assertEqual(answers([6, 0]), [1, -1])
         self.assertEqual(answers([0, 0, 1, 1, 6, 0, 0, 4, 1, 1]), [2, 1, 1, 1, -4, 1, -1])
 
+    def test_all_fourteen_in_one_list(self):
+        calls = [
+            0, 0, 1, 1,  1, 0, 0, 0, 1, 1, 9,  12,  2, 0, 3, 3, 3, 5,  8, 0,  3, 0, 1,  9, 0, 0, 3,  4, 0, 1,  11, 0, 1,
+            5, 0, 1, 1, 0,  10, 1, 0,  6, 1,  13, 1,  7, 0,  12]
+        self.assertEqual(answers(calls), [
+            2, 1, 1,
+            2, 2, 2,
+            4, 2, 2, 1, 1,
+            2, 3, 3,
+            18, 4, 4, 9, 0, 0, 0, 0, 0, 0, 0, 0, 0, 0, 0, 0, 0, 0, 5,
+            2, 4, 4,
+            1, 5,
+            2, 4, 5,
+            2, 1, 1,
+            2, 5, 6,
+            2, 4, 1,
+            2, 4, 5,
+            16, 9, 0, 0, 0, 0, 0, 0, 0, 0, 0, 0, 0, 0, 0, 0, 0,
+            2, 1, 1,
+            7, 5, 1, 0, 0, 0, 1, 0])
+
     def test_each_call_may_come_first(self):
-        firsts = [box(0, 0, 0, 1, 1, 1), dots(0, 0, 0, 1), dots(0), shift(0, 1), copy(0, 1), paste(0, 1, 0, 0), undo(0)]
+        firsts = [box(0, 0, 0, 1, 1, 1), dots(0, 0, 0, 1), dots(0), shift(0, 1), copy(0, 1), paste(0, 1, 0, 0), undo(0),
+                  close(0), cells(0), cell(0, 0, 0), tile(0, 0), same(0, 0), same(0, 1)]
         for first in firsts:
             self.assertEqual(ask(first, page(0, 1, 1)), [[-1], [1, 1]])
+        self.assertEqual(ask(store(), page(0, 1, 1)), [[0, 0], [1, 1]])
+        self.assertEqual(ask(slot(0), page(0, 1, 1)), [[-2], [1, 1]])
+
+    def test_each_call_may_come_alone_and_last(self):
+        self.assertEqual(answers(store()), [2, 0, 0])
+        self.assertEqual(answers(slot(0)), [1, -2])
+        self.assertEqual(answers(cells(0)), [1, -1])
+        self.assertEqual(answers(store() * 40), [2, 0, 0] * 40)
+        self.assertEqual(answers(page(0, 1, 1) + cells(0)), [2, 1, 1, 18, 4, 4] + [0] * 16)
 
     def test_the_row_of_dots_ends_where_its_count_says(self):
         self.assertEqual(answers([0, 0, 1, 1, 2, 0, 0, 6, 0]), [2, 1, 1, 2, 1, 2, 2, 1, 1])
@@ -40,7 +72,8 @@ class Form(unittest.TestCase):
         self.assertEqual(answers([2, 9, 4, 6, 0, 6, 0, 0, 0, 1, 1]), [1, -1, 2, 1, 1])
 
     def test_answers_are_whole_numbers_in_a_list(self):
-        told = answers(page(0, 1, 1) + undo(0) + box(0, 0, 0, 1, 1, 1))
+        told = answers(page(0, 1, 1) + undo(0) + box(0, 0, 0, 1, 1, 1) + cells(0) + cell(0, 0, 0) + tile(0, 0)
+                       + same(0, 0) + store() + slot(1) + close(0) + slot(0))
         self.assertIs(type(told), list)
         self.assertEqual({type(number) for number in told}, {int})
 
@@ -48,6 +81,10 @@ class Form(unittest.TestCase):
         calls = [page(0, 4, 4)] + [dots(0, *[15, 15, 7] * 100)] * 39
         self.assertEqual(len([number for call in calls for number in call]), 4 + 39 * 303)
         self.assertEqual(ask(*calls), [[1, 16], [2, 32], [2, 48], [2, 64]] + [[2, 64]] * 36)
+
+    def test_forty_calls_with_the_longest_answers(self):
+        calls = [page(0, 4, 4), box(0, 0, 0, 16, 16, 255)] + [cells(0)] * 38
+        self.assertEqual(ask(*calls), [[1, 16], [2, 32]] + [[16, 16] + [255] * 256] * 38)
 
 
 class Page(unittest.TestCase):

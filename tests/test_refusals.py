@@ -2,9 +2,19 @@
 
 import unittest
 
-from helper import TOP, album_after, ask, box, copy, dots, page, paste, shift, snapshot, undo
+from helper import (TOP, album_after, ask, box, cell, cells, close, copy, dots, look_after, page, paste, same, shift, slot,
+                    snapshot, store, tile, undo)
 
-START = [page(0, 2, 1), box(0, 1, 1, 2, 2, 9), page(2, 1, 1), dots(2, 0, 0, 4), shift(2, 3)]
+# Pictures 0 and 2 are there, 1 is closed, 3 never was; of the places 0 to 4 place 1 is free.
+START = [page(1, 1, 1), box(1, 0, 0, 1, 1, 8), page(0, 2, 1), box(0, 1, 1, 2, 2, 9), page(2, 1, 1), dots(2, 0, 0, 4),
+         shift(2, 3), close(1)]
+LOOK = look_after(*START)
+
+
+class Start(unittest.TestCase):
+
+    def test_is_as_told(self):
+        self.assertEqual(ask(*START, store())[-1], [5, 4, 4, 0, 1, 1, 1])
 
 
 class Refusals(unittest.TestCase):
@@ -14,11 +24,14 @@ class Refusals(unittest.TestCase):
             with self.subTest(call=call):
                 self.assertEqual(ask(*START, call)[-1], [number])
                 self.assertEqual(snapshot(album_after(*START, call)), snapshot(album_after(*START)))
+                self.assertEqual(look_after(*START, call), LOOK)
 
-    def take(self, *calls):
+    def take(self, *calls, many=2):
         for call in calls:
             with self.subTest(call=call):
-                self.assertEqual(len(ask(*START, call)[-1]), 2)
+                told = ask(*START, call)[-1]
+                self.assertEqual(len(told), many)
+                self.assertGreaterEqual(min(told), 0)
 
     def test_page_above_3(self):
         self.refuse(-1, page(4, 1, 1), page(5, 4, 4), page(TOP, 1, 1))
@@ -36,10 +49,21 @@ class Refusals(unittest.TestCase):
         for p in (1, 3, 4, TOP):
             self.refuse(-1, box(p, 0, 0, 1, 1, 1), dots(p, 0, 0, 1), dots(p), shift(p, 1), copy(p, 0), undo(p))
             self.refuse(-1, paste(p, 0, 0, 0), paste(0, p, 0, 0), paste(p, p, 0, 0), paste(p, 4, 0, 0))
+            self.refuse(-1, close(p), cells(p), cell(p, 0, 0), tile(p, 0))
+            self.refuse(-1, same(p, 0), same(0, p), same(p, p), same(p, 4), same(4, p))
+
+    def test_such_a_picture(self):
+        for p in (0, 2):
+            self.take(close(p), tile(p, 0), same(p, 0), same(2, p), same(p, p))
+            self.take(cell(p, 0, 0), many=1)
+        self.take(cells(0), many=2 + 32)
+        self.take(cells(2), many=2 + 16)
 
     def test_no_such_picture_is_told_first(self):
         self.refuse(-1, box(1, 0, 0, 1, 1, 256), dots(1, 0), dots(1, 99, 99, 999))
         self.refuse(-1, copy(1, 4), copy(1, 1), copy(TOP, TOP))
+        self.refuse(-1, cell(1, 4, 4), cell(3, TOP, 0), cell(4, 0, TOP), cell(TOP, TOP, TOP))
+        self.refuse(-1, tile(1, 1), tile(3, 16), tile(4, TOP), tile(TOP, TOP))
 
     def test_box_number(self):
         self.refuse(-2, box(0, 0, 0, 1, 1, 256), box(0, 0, 0, 1, 1, TOP))
@@ -73,6 +97,27 @@ class Refusals(unittest.TestCase):
         self.assertEqual(ask(*START, undo(0), undo(0))[-2:], [[3, 5], [-4]])
         before = [*START, undo(0)]
         self.assertEqual(snapshot(album_after(*before, undo(0))), snapshot(album_after(*before)))
+
+    def test_cell_that_there_is_not(self):
+        self.refuse(-2, cell(0, 8, 0), cell(0, 0, 4), cell(0, 8, 4), cell(0, 3, 7), cell(2, 4, 3), cell(2, 3, 4))
+        self.refuse(-2, cell(0, TOP, 0), cell(0, 0, TOP), cell(0, TOP, TOP))
+        self.take(cell(0, 7, 3), cell(2, 3, 3), many=1)
+
+    def test_tile_that_there_is_not(self):
+        self.refuse(-2, tile(0, 2), tile(0, TOP), tile(2, 1), tile(2, 4), tile(2, TOP))
+        self.take(tile(0, 1), tile(2, 0))
+
+    def test_slot_of_a_place_that_there_is_not(self):
+        self.refuse(-2, slot(5), slot(6), slot(TOP))
+        self.assertEqual(ask(slot(0), slot(1), slot(TOP)), [[-2]] * 3)
+
+    def test_slot_of_a_free_place(self):
+        self.refuse(-6, slot(1))
+        self.take(slot(0), slot(2), slot(3), slot(4), many=16)
+
+    def test_store_is_never_refused(self):
+        self.take(store(), many=2 + 5)
+        self.assertEqual(ask(store(), page(4, 1, 1), store()), [[0, 0], [-1], [0, 0]])
 
 
 if __name__ == "__main__":

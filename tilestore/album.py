@@ -24,6 +24,9 @@ class Album:
     def has_picture(self, p):
         return p in self.pictures
 
+    def places_of_picture(self, p):
+        return list(self.pictures[p].places)
+
     def rows_of_picture(self, p):
         picture = self.pictures[p]
         tiles = [self.store.tiles[place] for place in picture.places]

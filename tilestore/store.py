@@ -9,15 +9,18 @@ class Store:
         self.tiles = []
         self.counts = []
 
+    def is_free(self, place):
+        return self.counts[place] == 0
+
     def first_free(self):
         for place in range(len(self.counts)):
-            if self.counts[place] == 0:
+            if self.is_free(place):
                 return place
         return len(self.counts)
 
     def place_for(self, tile):
         for place in range(len(self.tiles)):
-            if self.counts[place] > 0 and self.tiles[place] == tile:
+            if not self.is_free(place) and self.tiles[place] == tile:
                 return place
         return self.first_free()
 
